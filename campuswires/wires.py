@@ -1,70 +1,62 @@
-"""The calls over rows of bytes: each answers 0 and what is asked for, or a refusal's number alone."""
+"""The calls: each answers 0 and what is asked for, or a refusal's number alone."""
+
+from campuswires.frames import are_tags, frame_body, frame_in_bytes, frame_kind, frame_refusal, frame_tags
+from campuswires.frames import is_kind, least_body, tag_count, LONGEST_FRAME_BODY
+from campuswires.packets import packet_in_bytes, packet_may_be, LONGEST_PACKET_BODY, PACKET_RANGES
+from campuswires.rows import after_check_steps, are_within, check_number, is_row_of_bytes, is_within
+from campuswires.rows import number_at, row_sum, HARDWARE_NUMBER
 
 LONGEST_ROW = 9000
-LONGEST_SECOND_ROW = 4096
-GREATEST_CHECK_NUMBER = 4294967295
-CHECK_PATTERN = 3988292384
+JOINED_RANGES = ((0, 4294967295), (0, 4294967295), (0, 4096))
 
 
 def crc(b):
-    if not is_row_of_bytes(b, LONGEST_ROW):
+    if not is_row_of_bytes(b, 0, LONGEST_ROW):
         return [-1]
     return [0, check_number(b)]
 
 
 def joined(a, c, length):
-    if not (is_check_number(a) and is_check_number(c) and 0 <= length <= LONGEST_SECOND_ROW):
+    if not are_within([a, c, length], JOINED_RANGES):
         return [-1]
     return [0, after_check_steps(a, 8 * length) ^ c]
 
 
 def sum_of(b):
-    if not is_row_of_bytes(b, LONGEST_ROW):
+    if not is_row_of_bytes(b, 0, LONGEST_ROW):
         return [-1]
     return [0, row_sum(b)]
 
 
-def is_row_of_bytes(b, longest):
-    if len(b) > longest:
-        return False
-    for number in b:
-        if number < 0 or number > 255:
-            return False
-    return True
+def frame(to, sender, kind, tags, body):
+    if not (is_within(to, HARDWARE_NUMBER) and is_within(sender, HARDWARE_NUMBER) and is_kind(kind)):
+        return [-1]
+    if not are_tags(tags):
+        return [-2]
+    if not is_row_of_bytes(body, least_body(tags), LONGEST_FRAME_BODY):
+        return [-3]
+    return [0] + behind_length(frame_in_bytes(to, sender, kind, tags, body))
 
 
-def is_check_number(number):
-    return 0 <= number <= GREATEST_CHECK_NUMBER
+def readframe(b):
+    refusal = frame_refusal(b)
+    if refusal != 0:
+        return [refusal]
+    tags = frame_tags(b)
+    numbers = [number_at(b, 0, 6), number_at(b, 6, 6), frame_kind(b, tags), tag_count(tags)]
+    return [0] + numbers + tags + behind_length(frame_body(b, tags))
 
 
-def check_number(b):
-    r = GREATEST_CHECK_NUMBER
-    for byte in b:
-        r = after_check_steps(r ^ byte, 8)
-    return r ^ GREATEST_CHECK_NUMBER
+def packet(tos, ident, keep, more, offset, hops, proto, sender, to, body):
+    numbers = [tos, ident, keep, more, offset, hops, proto, sender, to]
+    if not are_within(numbers, PACKET_RANGES):
+        return [-1]
+    if not is_row_of_bytes(body, 0, LONGEST_PACKET_BODY):
+        return [-2]
+    if not packet_may_be(numbers, len(body)):
+        return [-3]
+    return [0] + behind_length(packet_in_bytes(numbers, body))
 
 
-def after_check_steps(r, steps):
-    for step in range(steps):
-        if r % 2 == 1:
-            r = (r // 2) ^ CHECK_PATTERN
-        else:
-            r = r // 2
-    return r
-
-
-def row_sum(b):
-    s = 0
-    for place, byte in enumerate(b):
-        # A last byte alone needs nothing more: the byte 0 behind it would add nothing.
-        if place % 2 == 0:
-            s += byte * 256
-        else:
-            s += byte
-    return 65535 - folded(s)
-
-
-def folded(s):
-    for turn in range(3):
-        s = s % 65536 + s // 65536
-    return s
+def behind_length(row):
+    return [len(row)] + row

@@ -3,15 +3,7 @@ import random
 import unittest
 
 from campuswires.wires import sum_of
-from watched import check_row_left_alone, check_row_refusals, plain_row
-
-
-def sum_by_words(row):
-    filled = row + [0] * (len(row) % 2)
-    s = sum(int.from_bytes(bytes(filled[k:k + 2]), "big") for k in range(0, len(filled), 2))
-    for turn in range(3):
-        s = s % 65536 + s // 65536
-    return 65535 - s
+from watched import check_row_left_alone, check_row_refusals, plain_row, sum_by_words
 
 
 class SumOfTest(unittest.TestCase):

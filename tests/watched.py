@@ -1,7 +1,12 @@
-"""What several tests need: lists that tell of a change, and rows that are to be refused."""
+"""What several tests need: lists that tell of a change, rows that are to be refused, and the document's
+own words on bytes, written down a second time."""
+import copy
+import zlib
 
 LEAST = -10 ** 18
 GREATEST = 10 ** 18
+TOP_HARDWARE = 2 ** 48 - 1
+TOP_ADDRESS = 2 ** 32 - 1
 
 
 class Changed(Exception):
@@ -21,15 +26,19 @@ for changer in ("append", "clear", "extend", "insert", "pop", "remove", "reverse
     setattr(WatchedList, changer, refuse)
 
 
+def watched(value):
+    return WatchedList([watched(inner) for inner in value]) if isinstance(value, list) else value
+
+
 def plain_row(length):
     return [(place * 37 + place // 7 + 11) % 256 for place in range(length)]
 
 
-def rows_that_are_not_bytes():
+def rows_that_are_not_bytes(lengths):
     """Rows with one wrong number, at the first, a middle and the last place."""
     rows = []
     for wrong in (-1, 256, LEAST, GREATEST):
-        for length in (1, 2, 5, 9000):
+        for length in lengths:
             for place in sorted({0, length // 2, length - 1}):
                 row = plain_row(length)
                 row[place] = wrong
@@ -37,34 +46,105 @@ def rows_that_are_not_bytes():
     return rows
 
 
-def rows_too_long():
-    return [plain_row(9001), [0] * 9001, plain_row(10000), [GREATEST] * 10000]
+def rows_too_long(longest):
+    return [plain_row(longest + 1), [0] * (longest + 1), plain_row(10000), [GREATEST] * 10000, [LEAST] * 10000]
 
 
 def check_row_refusals(test, call):
-    for row in rows_that_are_not_bytes() + rows_too_long():
-        answer = call(row)
-        test.assertEqual(answer, [-1], (len(row), min(row), max(row)))
-        test.assertIs(type(answer), list)
+    for row in rows_that_are_not_bytes((1, 2, 5, 9000)) + rows_too_long(9000):
+        test.assertEqual(call(row), [-1], (len(row), min(row), max(row)))
 
 
 def check_row_left_alone(test, call):
-    """Neither an answer nor a refusal changes the row, and nothing is kept between two calls."""
     rows = [[], [7], plain_row(8), plain_row(9), plain_row(9000), plain_row(9001),
             [-1, 2, 3], [1, 256, 3], [1, 2, GREATEST], [LEAST]]
-    for row in rows:
-        before = list(row)
-        first = call(WatchedList(row))
-        second = call(row)
-        test.assertEqual(row, before)
-        test.assertEqual(first, second)
-        second.append(5)
-        row_again = list(before)
-        test.assertEqual(call(row_again), first)
-        test.assertEqual(row_again, before)
-    check_calls_between(test, call, rows)
+    check_left_alone(test, call, [(row,) for row in rows])
 
 
-def check_calls_between(test, call, rows):
-    alone = [call(row) for row in rows]
-    test.assertEqual([call(row) for row in reversed(rows)], alone[::-1])
+def check_form(test, answer):
+    """A plain list of plain whole numbers, a refusal's number alone."""
+    test.assertIs(type(answer), list)
+    test.assertEqual({type(number) for number in answer}, {int})
+    test.assertTrue(answer[0] == 0 or (answer[0] < 0 and len(answer) == 1))
+
+
+def check_left_alone(test, call, calls):
+    """No answer and no refusal changes what was handed in, and nothing is kept between two calls."""
+    alone = []
+    for handed in calls:
+        before = copy.deepcopy(handed)
+        first = call(*[watched(value) for value in handed])
+        check_form(test, first)
+        second = call(*handed)
+        test.assertEqual(handed, before)
+        test.assertEqual(second, first)
+        # An answer is the caller's own: a change of it reaches neither what was handed in nor the next answer.
+        second[:] = [-77] * len(second) + [5]
+        test.assertEqual(handed, before)
+        test.assertEqual(call(*handed), first)
+        alone.append(first)
+    test.assertEqual([call(*handed) for handed in reversed(calls)], alone[::-1])
+
+
+def check_answers(test, call, calls):
+    """Each of the calls, with the first number that it is to answer; all stay as they were."""
+    for refusal, handed in calls:
+        test.assertEqual(call(*handed)[0], refusal, [value if isinstance(value, int) else len(value)
+                                                     for value in handed])
+    check_left_alone(test, call, [handed for refusal, handed in calls])
+
+
+def check_ends(test, call, right, ranges, refusal):
+    """Each number at both ends of its range (answered) and beyond (refused), all else right."""
+    for place, (least, greatest) in enumerate(ranges):
+        for number in (least, least + 1, greatest - 1, greatest):
+            if least <= number <= greatest:
+                test.assertEqual(call(*put(right, place, number))[0], 0, (place, number))
+        for number in (least - 1, greatest + 1, LEAST, GREATEST):
+            test.assertEqual(call(*put(right, place, number)), [refusal], (place, number))
+
+
+def put(row, place, *numbers):
+    """The same row (or arguments), other numbers standing from the place on."""
+    changed = list(row)
+    changed[place:place + len(numbers)] = numbers
+    return changed
+
+
+def big(number, count):
+    return list(number.to_bytes(count, "big"))
+
+
+def answered(row):
+    return [0, len(row)] + row
+
+
+def sealed(row):
+    """The bytes of a frame, with the check number that they ask for behind them."""
+    return row + list(zlib.crc32(bytes(row)).to_bytes(4, "little"))
+
+
+def sum_by_words(row):
+    filled = row + [0] * (len(row) % 2)
+    s = sum(int.from_bytes(bytes(filled[k:k + 2]), "big") for k in range(0, len(filled), 2))
+    for turn in range(3):
+        s = s % 65536 + s // 65536
+    return 65535 - s
+
+
+def frame_by_words(to, sender, kind, tags, body):
+    row = big(to, 6) + big(sender, 6)
+    for place in range(0, len(tags), 3):
+        row += [136, 168] if len(tags) - place == 6 else [129, 0]
+        row += big(tags[place] << 13 | tags[place + 1] << 12 | tags[place + 2], 2)
+    return sealed(row + big(kind, 2) + body)
+
+
+def summed(row):
+    """The bytes of a packet, with the sum that its first twenty ask for in its place."""
+    return row[:10] + big(sum_by_words(row[:10] + [0, 0] + row[12:20]), 2) + row[12:]
+
+
+def packet_by_words(tos, ident, keep, more, offset, hops, proto, sender, to, body):
+    middle = big(keep << 14 | more << 13 | offset, 2) + [hops, proto, 0, 0]
+    return summed([69, tos] + big(20 + len(body), 2) + big(ident, 2) + middle + big(sender, 4) + big(to, 4) + body)
