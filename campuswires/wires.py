@@ -2,11 +2,13 @@
 
 from campuswires.frames import are_tags, frame_body, frame_in_bytes, frame_kind, frame_refusal, frame_tags
 from campuswires.frames import is_kind, least_body, tag_count, LONGEST_FRAME_BODY
-from campuswires.packets import packet_in_bytes, packet_may_be, LONGEST_PACKET_BODY, PACKET_RANGES
+from campuswires.packets import packet_body, packet_in_bytes, packet_may_be, packet_numbers, packet_refusal
+from campuswires.packets import pieces_of_packet, with_a_hop_less, HOPS, KEEP, LONGEST_PACKET_BODY, PACKET_RANGES
 from campuswires.rows import after_check_steps, are_within, check_number, is_row_of_bytes, is_within
 from campuswires.rows import number_at, row_sum, HARDWARE_NUMBER
 
 LONGEST_ROW = 9000
+MOST_IN_A_PIECE = (28, 65535)
 JOINED_RANGES = ((0, 4294967295), (0, 4294967295), (0, 4096))
 
 
@@ -56,6 +58,39 @@ def packet(tos, ident, keep, more, offset, hops, proto, sender, to, body):
     if not packet_may_be(numbers, len(body)):
         return [-3]
     return [0] + behind_length(packet_in_bytes(numbers, body))
+
+
+def readpacket(b):
+    refusal = packet_refusal(b)
+    if refusal != 0:
+        return [refusal]
+    return [0] + packet_numbers(b) + behind_length(packet_body(b))
+
+
+def hop(b):
+    refusal = packet_refusal(b)
+    if refusal != 0:
+        return [refusal]
+    if packet_numbers(b)[HOPS] <= 1:
+        return [-6]
+    return [0] + behind_length(with_a_hop_less(b))
+
+
+def cut(most, b):
+    refusal = packet_refusal(b)
+    if refusal != 0:
+        return [refusal]
+    if not is_within(most, MOST_IN_A_PIECE):
+        return [-6]
+    if len(b) <= most:
+        return [0, 1] + behind_length(b)
+    if packet_numbers(b)[KEEP] == 1:
+        return [-7]
+    pieces = pieces_of_packet(b, most)
+    answer = [0, len(pieces)]
+    for piece in pieces:
+        answer.extend(behind_length(piece))
+    return answer
 
 
 def behind_length(row):
