@@ -1,15 +1,19 @@
 """The calls: each answers 0 and what is asked for, or a refusal's number alone."""
 
+from campuswires.datagrams import datagram_body, datagram_in_bytes, datagram_ports, datagram_refusal
+from campuswires.datagrams import LONGEST_DATAGRAM_BODY
 from campuswires.frames import are_tags, frame_body, frame_in_bytes, frame_kind, frame_refusal, frame_tags
 from campuswires.frames import is_kind, least_body, tag_count, LONGEST_FRAME_BODY
 from campuswires.packets import packet_body, packet_in_bytes, packet_may_be, packet_numbers, packet_refusal
 from campuswires.packets import pieces_of_packet, with_a_hop_less, HOPS, KEEP, LONGEST_PACKET_BODY, PACKET_RANGES
+from campuswires.pieces import pieces_refusal, put_together
 from campuswires.rows import after_check_steps, are_within, check_number, is_row_of_bytes, is_within
 from campuswires.rows import number_at, row_sum, HARDWARE_NUMBER
 
 LONGEST_ROW = 9000
 MOST_IN_A_PIECE = (28, 65535)
 JOINED_RANGES = ((0, 4294967295), (0, 4294967295), (0, 4096))
+DATAGRAM_RANGES = ((0, 4294967295), (0, 4294967295), (0, 65535), (0, 65535))
 
 
 def crc(b):
@@ -91,6 +95,28 @@ def cut(most, b):
     for piece in pieces:
         answer.extend(behind_length(piece))
     return answer
+
+
+def join(pieces):
+    refusal = pieces_refusal(pieces)
+    if refusal != 0:
+        return [refusal]
+    return [0] + behind_length(put_together(pieces))
+
+
+def datagram(sender, to, sport, dport, body):
+    if not are_within([sender, to, sport, dport], DATAGRAM_RANGES):
+        return [-1]
+    if not is_row_of_bytes(body, 0, LONGEST_DATAGRAM_BODY):
+        return [-2]
+    return [0] + behind_length(datagram_in_bytes(sender, to, sport, dport, body))
+
+
+def readdatagram(sender, to, b):
+    refusal = datagram_refusal(sender, to, b)
+    if refusal != 0:
+        return [refusal]
+    return [0] + datagram_ports(b) + behind_length(datagram_body(b))
 
 
 def behind_length(row):

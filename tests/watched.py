@@ -148,3 +148,19 @@ def summed(row):
 def packet_by_words(tos, ident, keep, more, offset, hops, proto, sender, to, body):
     middle = big(keep << 14 | more << 13 | offset, 2) + [hops, proto, 0, 0]
     return summed([69, tos] + big(20 + len(body), 2) + big(ident, 2) + middle + big(sender, 4) + big(to, 4) + body)
+
+
+def rows_answered(answer):
+    """The rows of an answer that tells how many they are and then each behind its length."""
+    rows, place = [], 2
+    while place < len(answer):
+        rows.append(answer[place + 1:place + 1 + answer[place]])
+        place += 1 + answer[place]
+    return rows
+
+
+def datagram_by_words(sender, to, sport, dport, body):
+    length = big(8 + len(body), 2)
+    row = big(sport, 2) + big(dport, 2) + length
+    told = sum_by_words(big(sender, 4) + big(to, 4) + [0, 17] + length + row + [0, 0] + body) or 65535
+    return row + big(told, 2) + body
