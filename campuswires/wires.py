@@ -4,9 +4,12 @@ from campuswires.datagrams import datagram_body, datagram_in_bytes, datagram_por
 from campuswires.datagrams import LONGEST_DATAGRAM_BODY
 from campuswires.frames import are_tags, frame_body, frame_in_bytes, frame_kind, frame_refusal, frame_tags
 from campuswires.frames import is_kind, least_body, tag_count, LONGEST_FRAME_BODY
+from campuswires.leases import are_codes_rising, are_values, field_code, field_value, lease_fields, lease_in_bytes
+from campuswires.leases import lease_numbers, lease_refusal, LEASE_RANGES, LONGEST_LEASE
 from campuswires.packets import packet_body, packet_in_bytes, packet_may_be, packet_numbers, packet_refusal
 from campuswires.packets import pieces_of_packet, with_a_hop_less, HOPS, KEEP, LONGEST_PACKET_BODY, PACKET_RANGES
 from campuswires.pieces import pieces_refusal, put_together
+from campuswires.questions import question_in_bytes, QUESTION_RANGES
 from campuswires.rows import after_check_steps, are_within, check_number, is_row_of_bytes, is_within
 from campuswires.rows import number_at, row_sum, HARDWARE_NUMBER
 
@@ -117,6 +120,38 @@ def readdatagram(sender, to, b):
     if refusal != 0:
         return [refusal]
     return [0] + datagram_ports(b) + behind_length(datagram_body(b))
+
+
+def lease(op, hops, secs, number, host, mine, yours, server, relay, fields):
+    numbers = [op, hops, secs, number, host, mine, yours, server, relay]
+    if not are_within(numbers, LEASE_RANGES):
+        return [-1]
+    if not are_codes_rising(fields):
+        return [-2]
+    if not are_values(fields):
+        return [-3]
+    row = lease_in_bytes(numbers, fields)
+    if len(row) > LONGEST_LEASE:
+        return [-4]
+    return [0] + behind_length(row)
+
+
+def readlease(b):
+    refusal = lease_refusal(b)
+    if refusal != 0:
+        return [refusal]
+    fields = lease_fields(b)
+    answer = [0] + lease_numbers(b) + [len(fields)]
+    for field in fields:
+        answer.append(field_code(field))
+        answer.extend(behind_length(field_value(field)))
+    return answer
+
+
+def question(op, hw, address, sought_hw, sought_address):
+    if not are_within([op, hw, address, sought_hw, sought_address], QUESTION_RANGES):
+        return [-1]
+    return [0] + behind_length(question_in_bytes(op, hw, address, sought_hw, sought_address))
 
 
 def behind_length(row):

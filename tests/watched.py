@@ -164,3 +164,23 @@ def datagram_by_words(sender, to, sport, dport, body):
     row = big(sport, 2) + big(dport, 2) + length
     told = sum_by_words(big(sender, 4) + big(to, 4) + [0, 17] + length + row + [0, 0] + body) or 65535
     return row + big(told, 2) + body
+
+
+def lease_head(op, hops, secs, number, host, mine, yours, server, relay):
+    row = [op, hops] + big(secs, 2) + big(number, 4) + big(host, 6) + [0, 0]
+    return row + big(mine, 4) + big(yours, 4) + big(server, 4) + big(relay, 4)
+
+
+def filled(row):
+    """With bytes 0 behind it, up to a multiple of 4."""
+    return row + [0] * (-len(row) % 4)
+
+
+def lease_by_words(numbers, fields):
+    row = lease_head(*numbers)
+    for code, *value in fields:
+        while len(value) > 255:
+            row += [code, 255] + value[:255]
+            value = value[255:]
+        row += [code, len(value)] + value
+    return filled(row + [255])
