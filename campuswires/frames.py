@@ -67,6 +67,10 @@ def frame_refusal(b):
     return 0
 
 
+def frame_ends(b):
+    return [number_at(b, 0, 6), number_at(b, 6, 6)]
+
+
 def frame_tags(b):
     mark = number_at(b, 12, 2)
     if mark == FIRST_OF_TWO_MARK:

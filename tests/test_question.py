@@ -3,15 +3,12 @@ import random
 import unittest
 
 from campuswires.wires import question
-from watched import GREATEST, LEAST, TOP_ADDRESS, TOP_HARDWARE, answered, big, check_ends, check_left_alone, put
+from watched import GREATEST, LEAST, TOP_ADDRESS, TOP_HARDWARE, answered, check_ends, check_left_alone, put
+from watched import question_by_words
 
 NAMES = ["op", "hw", "address", "sought_hw", "sought_address"]
 RIGHT = (1, 2, 3, 4, 5)
 RANGES = [(1, 2), (0, TOP_HARDWARE), (0, TOP_ADDRESS), (0, TOP_HARDWARE), (0, TOP_ADDRESS)]
-
-
-def question_by_words(op, hw, address, sought_hw, sought_address):
-    return [0, 1, 8, 0, 6, 4, 0, op] + big(hw, 6) + big(address, 4) + big(sought_hw, 6) + big(sought_address, 4)
 
 
 class QuestionTest(unittest.TestCase):

@@ -95,6 +95,9 @@ class ReadleaseTest(unittest.TestCase):
     def test_fields_that_do_not_end(self):
         self.assertEqual(readlease(HEAD + [0, 0, 0, 0]), [-2])
         self.assertEqual(readlease(HEAD + [7, 1, 9, 0, 255, 0, 0, 0]), [-2])
+        # A code 0 whose length and value would be there, and a 255 behind them:
+        for fields in ([[0, 0]], [[0, 1, 9]], [[0, 0], [7, 1, 9]], [[7, 1, 9], [0, 2, 8, 9]], [field(7, 255), [0, 0]]):
+            self.assertEqual(readlease(ended(*fields)), [-2])
         # Before a 255 is taken as a code:
         self.assertEqual(readlease(HEAD + [7, 2, 8, 9]), [-2])
         self.assertEqual(readlease(HEAD + [7, 2, 255, 255]), [-2])

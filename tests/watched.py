@@ -184,3 +184,16 @@ def lease_by_words(numbers, fields):
             value = value[255:]
         row += [code, len(value)] + value
     return filled(row + [255])
+
+
+def question_by_words(op, hw, address, sought_hw, sought_address):
+    return [0, 1, 8, 0, 6, 4, 0, op] + big(hw, 6) + big(address, 4) + big(sought_hw, 6) + big(sought_address, 4)
+
+
+def wrap_by_words(to, sender, vlan, rank, source, goal, ident, hops, sport, dport, body):
+    inner = datagram_by_words(source, goal, sport, dport, body)
+    row = packet_by_words(0, ident, 1, 0, 0, hops, 17, source, goal, inner)
+    tags = [rank, 0, vlan] if vlan >= 0 else []
+    while len(row) < (42 if tags else 46):
+        row = row + [0]
+    return frame_by_words(to, sender, 2048, tags, row)
